@@ -235,13 +235,19 @@ func anyProgram(r *rand.Rand, size int) api.Node {
 	return m.expression()
 }
 
-// anyWords gives a grammar words by chance; none of them is empty.
+// anyWords gives a grammar words by chance; of those that may be empty some are.
 func anyWords(r *rand.Rand) api.Grammar {
 	one := func() string {
 		return []string{"a", "⍵", "{", "}}", "two words", "'", `"`, "\\", "/", "⍣", "(", "0", "\xff", "|"}[r.Intn(14)]
 	}
+	orNone := func() string {
+		if r.Intn(4) == 0 {
+			return ""
+		}
+		return one()
+	}
 	return api.Grammar{
-		Outer: one(), Power: one(), Open: one(), Close: one(), Left: one(), Right: one(), Minus: one(), Quote: one(),
+		Outer: orNone(), Power: orNone(), Open: one(), Close: one(), Left: one(), Right: one(), Minus: orNone(), Quote: orNone(),
 		Trains: r.Intn(2) == 0, Lone: r.Intn(2) == 0, Square: r.Intn(2) == 0,
 	}
 }
@@ -251,18 +257,20 @@ func TestChance(t *testing.T) {
 	t.Parallel()
 	r := rand.New(rand.NewSource(163))
 	grammars := someGrammars()
-	seen := map[int]int{}
+	seen, blankAhead := map[int]int{}, 0
 	for range 40000 {
 		g := anyWords(r)
 		if r.Intn(2) == 0 {
 			g = grammars[r.Intn(len(grammars))]
 		}
 		n := anyProgram(r, r.Intn(40))
-		if !hasWords(g, n) {
-			g = fullGrammar()
+		if strings.HasPrefix(hold(t, g, n), " ") {
+			blankAhead++
 		}
-		hold(t, g, n)
 		count(n, seen)
+	}
+	if blankAhead < 300 {
+		t.Errorf("texts whose first word is empty: %d", blankAhead)
 	}
 	for kind := range shapes {
 		if seen[kind] < 5000 {

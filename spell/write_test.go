@@ -127,9 +127,7 @@ func TestPower(t *testing.T) {
 			if !g.Lone {
 				inCalls(t, g, c.n, inWords(g, c.want))
 			}
-			if hasWords(g, c.n) {
-				pairs{{dy(c.n, num(1), a), "1 " + inWords(g, c.want) + " a"}}.check(t, g)
-			}
+			pairs{{dy(c.n, num(1), a), "1 " + inWords(g, c.want) + " a"}}.check(t, g)
 		}
 	}
 }
@@ -218,6 +216,52 @@ func TestArguments(t *testing.T) {
 	}.check(t, lone)
 }
 
+// TestEmptyWords: 16.2, a Literal and an Outer that are empty texts are words as any other, with one blank behind them and one ahead, also where they stand first or last.
+func TestEmptyWords(t *testing.T) {
+	none, b, plus := nums(), name("b"), verb("+")
+	each := outer(plus)
+	l := pairs{
+		{none, ""},
+		{text(""), ""},
+		{mo(plus, none), "+ "},
+		{mo(adverb("/", plus), none), "+/ "},
+		{dy(plus, none, b), " + b"},
+		{dy(plus, text(""), b), " + b"},
+		{dy(plus, b, none), "b + "},
+		{dy(plus, none, none), " + "},
+		{dy(plus, none, dy(plus, none, none)), " +  + "},
+		{dy(plus, dy(plus, none, none), none), "(  +  ) + "},
+		{dy(hook(plus, plus), none, b), " ( + + ) b"},
+		{index(none, none), " [  ]"},
+		{index(index(none, b), b), " [ b ] [ b ]"},
+		{dy(plus, index(none, b), b), " [ b ] + b"},
+		{mo(lam1(none), none), "{  } "},
+		{dy(lam2(dy(plus, none, right())), none, b), " {  + y } b"},
+		{mo(each, b), " + b"},
+		{mo(each, none), " + "},
+		{mo(each, mo(each, b)), " +  + b"},
+		{mo(outer(each), b), " (  + ) b"},
+		{mo(outer(adverb("/", plus)), b), " ( +/ ) b"},
+		{mo(adverb("/", each), b), " +/ b"},
+		{mo(outer(lam1(right())), b), " { y } b"},
+		{mo(outer(fork(each, plus, plus)), b), " (  + + + ) b"},
+		{dy(each, b, b), "b  + b"},
+		{dy(each, none, none), "  + "},
+		{mo(power(2, each), none), "(  +2 ) "},
+		{dy(power(2, each), none, b), " (  +2 ) b"},
+		{dy(power(2, plus), none, b), " ( +2 ) b"},
+		{dy(plus, num(-5), num(-6)), "5 + 6"},
+	}
+	g := api.Grammar{Open: "{", Close: "}", Left: "x", Right: "y"}
+	l.check(t, g)
+	g.Quote = "'"
+	pairs{{dy(plus, none, b), "'' + b"}, {mo(each, none), " + ''"}}.check(t, g)
+	g.Quote, g.Outer = "", "∘."
+	pairs{{dy(plus, none, b), " + b"}, {mo(each, none), "∘. + "}}.check(t, g)
+	g.Lone = true
+	pairs{{mo(power(2, plus), none), "2 +/ "}, {dy(plus, none, mo(power(2, plus), none)), " + 2 +/ "}}.check(t, g)
+}
+
 // TestPlaysNoPart: 16.2 to 16.4, what a kind does not name says nothing.
 func TestPlaysNoPart(t *testing.T) {
 	n := dy(adverb("/", verb("+")), mo(lam1(right()), num(1)), name("a"))
@@ -264,9 +308,6 @@ func inWords(g api.Grammar, want string) string {
 // inCalls holds Write of a function against what is wanted: as a function of one, of two, and as a part.
 func inCalls(t *testing.T, g api.Grammar, f api.Node, want string) {
 	t.Helper()
-	if !hasWords(g, f) {
-		return
-	}
 	a := name("a")
 	l := pairs{
 		{mo(f, a), want + " a"},
@@ -284,19 +325,4 @@ func inCalls(t *testing.T, g api.Grammar, f api.Node, want string) {
 			pair{mo(fork(f, verb("+"), f), a), "( " + want + " + " + want + " ) a"})
 	}
 	l.check(t, g)
-}
-
-// hasWords tells whether a grammar has the signs that a program needs: of empty ones nothing is promised.
-func hasWords(g api.Grammar, n api.Node) bool {
-	return (g.Outer != "" || !hasKind(n, api.NOuter)) && (g.Power != "" || !hasKind(n, api.NPow))
-}
-
-// hasKind tells whether a kind is in a program.
-func hasKind(n api.Node, kind int) bool {
-	for _, part := range n.Kids {
-		if hasKind(part, kind) {
-			return true
-		}
-	}
-	return n.Kind == kind
 }

@@ -20,16 +20,18 @@ const (
 type writer struct {
 	grammar api.Grammar
 	right   string
+	begun   bool // whether a word stands there: the text does not tell, since a first word may be empty
 	text    strings.Builder
 }
 
-// put writes words, each with a blank ahead of it, if something stands there.
+// put writes words, each with a blank ahead of it, if another one stands there.
 func (w *writer) put(words ...string) {
 	for _, word := range words {
-		if w.text.Len() > 0 {
+		if w.begun {
 			w.glue(blank)
 		}
 		w.glue(word)
+		w.begun = true
 	}
 }
 
