@@ -1,18 +1,14 @@
 package run
 
 import (
-	"slices"
-
 	"triglyph/api"
-	"triglyph/arr"
+	"triglyph/engine"
 	"triglyph/fold"
-	"triglyph/meter"
 )
 
-// machine does programs that may be: core.Check was asked, so a kind that is not looked for can't come. Its values may share memory with one another, with the program and with the names; none of it is ever changed.
+// machine does programs that may be: core.Check was asked, so a kind that is not looked for can't come.
 type machine struct {
-	*meter.Meter
-	env api.Env
+	engine.Engine
 }
 
 // arguments is what NLeft and NRight are in a function's text.
@@ -27,9 +23,9 @@ func (m *machine) value(n api.Node, within arguments) (api.Arr, api.Errno) {
 	}
 	switch n.Kind {
 	case api.NLit:
-		return m.held(n.Lit, api.OK)
+		return m.Held(n.Lit, api.OK)
 	case api.NVar:
-		return m.held(m.named(n.Name))
+		return m.Named(n.Name)
 	case api.NLeft:
 		return within.left, api.OK
 	case api.NRight:
@@ -69,15 +65,15 @@ func (m *machine) one(f api.Node, x api.Arr) (api.Arr, api.Errno) {
 	}
 	switch f.Kind {
 	case api.NPrim:
-		return m.held(One(f.Op, x))
+		return m.Held(One(f.Op, x))
 	case api.NLam1:
 		return m.value(f.Kids[0], arguments{right: x})
 	case api.NComm:
 		return m.two(f.Kids[0], x, x)
 	case api.NPow:
-		return m.often(f.Op, f.Kids[0], x)
+		return engine.Often(f.Op, func(x api.Arr) (api.Arr, api.Errno) { return m.one(f.Kids[0], x) }, x)
 	}
-	return m.held(folded(f.Kind, between(f.Kids[0]), x))
+	return m.Held(folded(f.Kind, between(f.Kids[0]), x))
 }
 
 // two is what a function makes of two arguments.
@@ -87,50 +83,22 @@ func (m *machine) two(f api.Node, x, y api.Arr) (api.Arr, api.Errno) {
 	}
 	switch f.Kind {
 	case api.NPrim:
-		return m.held(sparing(f.Op, x, y))
+		return m.Held(laid(f.Op, x, y))
 	case api.NLam2:
 		return m.value(f.Kids[0], arguments{left: x, right: y})
 	case api.NComm:
 		return m.two(f.Kids[0], y, x)
 	}
-	return m.held(fold.Outer(between(f.Kids[0]), x, y))
+	return m.Held(fold.Outer(between(f.Kids[0]), x, y))
 }
 
-// often is a function done so many times, one upon the other.
-func (m *machine) often(times int, f api.Node, x api.Arr) (api.Arr, api.Errno) {
-	for range times {
-		next, e := m.one(f, x)
-		if e != api.OK {
-			return api.Arr{}, e
-		}
-		x = next
+// laid is Two, without memory for each place in which a box is laid.
+func laid(op int, x, y api.Arr) (api.Arr, api.Errno) {
+	do := func(x, y api.Arr) (api.Arr, api.Errno) { return Two(op, x, y) }
+	if !isFrom(op, api.Reshape, api.At) || isSought(op) {
+		return do(x, y)
 	}
-	return x, api.OK
-}
-
-// named is what a name has.
-func (m *machine) named(name string) (api.Arr, api.Errno) {
-	at := slices.Index(m.env.Names, name)
-	if at < 0 || at >= len(m.env.Vals) {
-		return api.Arr{}, api.ErrValue
-	}
-	value := m.env.Vals[at]
-	// Whatever is wrong with it: a rank or cells too many would be taken for what the program came to.
-	if arr.Check(value) != api.OK {
-		return api.Arr{}, api.ErrArg
-	}
-	return value, api.OK
-}
-
-// held is what came of something, if it may be held.
-func (m *machine) held(a api.Arr, e api.Errno) (api.Arr, api.Errno) {
-	if e == api.OK {
-		e = m.Hold(a)
-	}
-	if e != api.OK {
-		return api.Arr{}, e
-	}
-	return a, api.OK
+	return engine.Sparing(do, x, y)
 }
 
 // folded is an array folded as a kind of node says.

@@ -1,4 +1,4 @@
-package run
+package engine
 
 import (
 	"slices"
@@ -7,16 +7,13 @@ import (
 	"triglyph/arr"
 )
 
-// sparing is Two, but that a box which is laid in many places has one memory in all of them. A copy for each could take far more than there is room for, ahead of Hold's telling so.
-func sparing(op int, x, y api.Arr) (api.Arr, api.Errno) {
-	if !isFrom(op, api.Reshape, api.At) || isSought(op) {
-		return Two(op, x, y)
-	}
-	// These look into no box, so its number can stand in it while cells are laid.
+// Sparing is a function that lays cells and looks into no box, done so that a box which is laid in many places has one memory in all of them. A copy for each could take far more than there is room for, ahead of Hold's telling so.
+func Sparing(do func(x, y api.Arr) (api.Arr, api.Errno), x, y api.Arr) (api.Arr, api.Errno) {
+	// Nobody looks into a box, so its number can stand in it while cells are laid.
 	boxes := []api.Cell{}
 	x, boxes = numbered(x, boxes)
 	y, boxes = numbered(y, boxes)
-	out, e := Two(op, x, y)
+	out, e := do(x, y)
 	for i, c := range out.Cells {
 		if c.Kind == api.CBox {
 			out.Cells[i] = boxes[c.Box[0].Cells[0].N]
